@@ -107,12 +107,9 @@ func bitsOf(cells map[int64]bool) uint64 {
 	return mask
 }
 
-// sizeOf returns the size of a number, without its sign.
+// sizeOf returns the size of a number, without its sign (0 of -0).
 func sizeOf(a float32) float32 {
-	if a < 0 {
-		return -a
-	}
-	return a
+	return float32(math.Abs(float64(a)))
 }
 
 func isFinite(a float32) bool {

@@ -1,6 +1,7 @@
 package tests
 
 import (
+	"fmt"
 	"math"
 	"math/rand"
 	"testing"
@@ -96,6 +97,39 @@ func sameField(a, b impl.Field) bool {
 func sameGround(a, b impl.Ground) bool {
 	return a.Wide == b.Wide && a.High == b.High && a.Fixed == b.Fixed &&
 		sameField(a.Conduct, b.Conduct) && sameField(a.Gain, b.Gain) && sameField(a.Heads, b.Heads)
+}
+
+// textOf returns results as text, which is equal for the same ones.
+func textOf(results ...any) string {
+	out := ""
+	for _, result := range results {
+		switch x := result.(type) {
+		case float32:
+			out += fmt.Sprintf("%08x ", canonicalBits(x))
+		case impl.Field:
+			out += fmt.Sprintf("%08x ", fieldBits(x))
+		case impl.Ground:
+			out += fmt.Sprintf("%d %d %x %08x %08x %08x ", x.Wide, x.High, x.Fixed, fieldBits(x.Conduct), fieldBits(x.Gain), fieldBits(x.Heads))
+		default:
+			out += fmt.Sprintf("%v ", x)
+		}
+	}
+	return out + "\n"
+}
+
+func canonicalBits(a float32) uint32 {
+	if a != a {
+		return 0x7fc00000
+	}
+	return math.Float32bits(a)
+}
+
+func fieldBits(f impl.Field) [64]uint32 {
+	bits := [64]uint32{}
+	for i, a := range f {
+		bits[i] = canonicalBits(a)
+	}
+	return bits
 }
 
 // cellsOf returns the numbers of all cells in ascending order.

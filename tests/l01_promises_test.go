@@ -1,7 +1,6 @@
 package tests
 
 import (
-	"fmt"
 	"math"
 	"math/rand"
 	"testing"
@@ -14,21 +13,7 @@ import (
 // resultsOf calls all functions of chapter 1, and returns what they return, as text.
 func resultsOf(g, h impl.Ground, n [3]int64, a [2]float32, fixed bool, text string) string {
 	out := ""
-	add := func(results ...any) {
-		for _, result := range results {
-			switch x := result.(type) {
-			case float32:
-				out += fmt.Sprintf("%08x ", canonicalBits(x))
-			case impl.Field:
-				out += fmt.Sprintf("%08x ", fieldBits(x))
-			case impl.Ground:
-				out += fmt.Sprintf("%d %d %x %08x %08x %08x ", x.Wide, x.High, x.Fixed, fieldBits(x.Conduct), fieldBits(x.Gain), fieldBits(x.Heads))
-			default:
-				out += fmt.Sprintf("%v ", x)
-			}
-		}
-		out += "\n"
-	}
+	add := func(results ...any) { out += textOf(results...) }
 	add(impl.CodeName(n[0]), impl.SameNumber(a[0], a[1]), impl.IsPlain(a[0]), impl.SameField(g.Heads, h.Heads))
 	add(impl.ValidGround(g), impl.SameGround(g, h), impl.JointOf(a[0], a[1]), impl.NumberText(a[0]), impl.GroundText(g))
 	add(impl.EvenGround(n[0], n[1], a[0], a[1]))
@@ -50,21 +35,6 @@ func resultsOf(g, h impl.Ground, n [3]int64, a [2]float32, fixed bool, text stri
 	add(impl.ReadNumber(text))
 	add(impl.ReadGround(text))
 	return out
-}
-
-func canonicalBits(a float32) uint32 {
-	if a != a {
-		return 0x7fc00000
-	}
-	return math.Float32bits(a)
-}
-
-func fieldBits(f impl.Field) [64]uint32 {
-	bits := [64]uint32{}
-	for i, a := range f {
-		bits[i] = canonicalBits(a)
-	}
-	return bits
 }
 
 // anyGround returns a ground that need not be valid.
