@@ -7,11 +7,10 @@ import (
 	"loop.example/g01288/impl"
 )
 
-// settlingCodes returns the codes of the functions of chapter 2; it tells of results that are not nothing beside an error.
-func settlingCodes(t *testing.T, g impl.Ground, cell, n int64, a float32) map[string]int64 {
-	t.Helper()
+// noteCodes returns codes, and what notes them by their names; it tells of results that are not nothing beside an error.
+func noteCodes(t *testing.T) (map[string]int64, func(name string, code int64, results ...any)) {
 	codes := map[string]int64{}
-	note := func(name string, code int64, results ...any) {
+	return codes, func(name string, code int64, results ...any) {
 		t.Helper()
 		codes[name] = code
 		for _, result := range results {
@@ -20,6 +19,12 @@ func settlingCodes(t *testing.T, g impl.Ground, cell, n int64, a float32) map[st
 			}
 		}
 	}
+}
+
+// settlingCodes returns the codes of the functions of chapter 2; it tells of results that are not nothing beside an error.
+func settlingCodes(t *testing.T, g impl.Ground, cell, n int64, a float32) map[string]int64 {
+	t.Helper()
+	codes, note := noteCodes(t)
 	head, code := impl.SettledHead(g, cell)
 	note("SettledHead", code, head)
 	for name, sweep := range sweeps {
@@ -55,12 +60,17 @@ func settlingCodes(t *testing.T, g impl.Ground, cell, n int64, a float32) map[st
 	return codes
 }
 
-// isNothing reports whether a result is the zero value of its type, or an empty path.
+// isNothing reports whether a result is the zero value of its type, or an empty list.
 func isNothing(result any) bool {
-	if path, ok := result.([]int64); ok {
-		return len(path) == 0
+	switch list := result.(type) {
+	case []int64:
+		return len(list) == 0
+	case []float32:
+		return len(list) == 0
+	case []impl.Well:
+		return len(list) == 0
 	}
-	for _, nothing := range []any{impl.Ground{}, impl.Field{}, float32(0), int64(0), uint64(0), false} {
+	for _, nothing := range []any{impl.Ground{}, impl.Field{}, impl.Well{}, float32(0), int64(0), uint64(0), false} {
 		if fmt.Sprintf("%T", result) == fmt.Sprintf("%T", nothing) {
 			return textOf(result) == textOf(nothing)
 		}
