@@ -116,6 +116,9 @@ func isFinite(a float32) bool {
 	return sizeOf(a) <= math.MaxFloat32
 }
 
+// isAmount reports whether a number is plain, and at least 0.
+func isAmount(a float32) bool { return IsPlain(a) && a >= 0 }
+
 // ifFinite returns a number as a result, or ErrState if it is not finite.
 func ifFinite(a float32) (float32, int64) {
 	if !isFinite(a) {
@@ -156,6 +159,9 @@ func (g *Ground) cells() uint64 {
 	}
 	return mask
 }
+
+// free returns the bits of all cells that are not fixed.
+func (g *Ground) free() uint64 { return g.cells() &^ g.Fixed }
 
 // beside returns the cell on a side of a cell, and whether there is one.
 func (g *Ground) beside(cell int64, side cellSide) (int64, bool) {
@@ -284,8 +290,7 @@ func ValidGround(g Ground) bool {
 		return false
 	}
 	for cell := range bitsIn(cells) {
-		conduct := g.Conduct[cell]
-		if !IsPlain(conduct) || conduct < 0 || !IsPlain(g.Gain[cell]) || !IsPlain(g.Heads[cell]) {
+		if !isAmount(g.Conduct[cell]) || !IsPlain(g.Gain[cell]) || !IsPlain(g.Heads[cell]) {
 			return false
 		}
 	}
@@ -304,7 +309,7 @@ func SameGround(a, b Ground) bool {
 
 // EvenGround returns the ground with equal cells.
 func EvenGround(wide, high int64, conduct, head float32) (Ground, int64) {
-	if !IsPlain(conduct) || conduct < 0 || !IsPlain(head) {
+	if !isAmount(conduct) || !IsPlain(head) {
 		return Ground{}, ErrInvalid
 	}
 	if !isExtent(wide) || !isExtent(high) {
@@ -402,7 +407,7 @@ func WorstBalance(g Ground) (int64, float32, int64) {
 	if code != OK {
 		return 0, 0, code
 	}
-	free := g.cells() &^ g.Fixed
+	free := g.free()
 	if free == 0 {
 		return 0, 0, ErrNotFound
 	}

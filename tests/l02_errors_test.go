@@ -72,7 +72,7 @@ func isNothing(result any) bool {
 	case []impl.Reading:
 		return len(list) == 0
 	}
-	for _, nothing := range []any{impl.Ground{}, impl.Field{}, impl.Well{}, impl.Aquifer{}, float32(0), int64(0), uint64(0), false} {
+	for _, nothing := range []any{impl.Ground{}, impl.Field{}, impl.Brine{}, impl.Well{}, impl.Aquifer{}, float32(0), int64(0), uint64(0), false} {
 		if fmt.Sprintf("%T", result) == fmt.Sprintf("%T", nothing) {
 			return textOf(result) == textOf(nothing)
 		}
