@@ -112,6 +112,8 @@ func textOf(results ...any) string {
 			out += fmt.Sprintf("%d %d %x %08x %08x %08x ", x.Wide, x.High, x.Fixed, fieldBits(x.Conduct), fieldBits(x.Gain), fieldBits(x.Heads))
 		case impl.Brine:
 			out += textOf(x.Ground, x.Salt, x.Spring, x.Room)
+		case impl.Wave:
+			out += textOf(firstOf(x), secondOf(x))
 		default:
 			out += fmt.Sprintf("%v ", x)
 		}
