@@ -71,8 +71,10 @@ func isNothing(result any) bool {
 		return len(list) == 0
 	case []impl.Reading:
 		return len(list) == 0
+	case []impl.Permit:
+		return len(list) == 0
 	}
-	for _, nothing := range []any{impl.Ground{}, impl.Field{}, impl.Brine{}, impl.Well{}, impl.Aquifer{}, float32(0), int64(0), uint64(0), false} {
+	for _, nothing := range []any{impl.Ground{}, impl.Field{}, impl.Brine{}, impl.Well{}, impl.Aquifer{}, [8]int64{}, [64]int16{}, float32(0), int64(0), uint64(0), false} {
 		if fmt.Sprintf("%T", result) == fmt.Sprintf("%T", nothing) {
 			return textOf(result) == textOf(nothing)
 		}
